@@ -1,1 +1,1 @@
-"""Chains of marked pieces: all ways to lay the pieces of a broken stone border in one chain."""
+"""Chains of marked pieces: the ways to lay all pieces of a broken border in a chain or a circuit."""

@@ -5,11 +5,18 @@ from brokenborder.pieces import answers
 LEAST = -2147483648
 MOST = 2147483647
 
+# Numbers that are neither a mark nor the index of a piece nor the number of a chain.
+NO_MARKS = (-1, 6, LEAST, MOST)
+NO_INDICES = (-1, 7, LEAST, MOST)
+
 CREATE = (0,)
 CHAIN_COUNT = (4,)
 SINGLE_CHAIN_POSSIBLE = (6,)
 MIN_CHAINS = (7,)
 EXCESSES = (8,)
+COMPONENTS = (9,)
+CIRCUIT_COUNT = (10,)
+DESCRIBE = (16,)
 
 
 def add_piece(left, right):
@@ -26,6 +33,26 @@ def set_piece(i, left, right):
 
 def chain(k):
     return (5, k)
+
+
+def circuit(k):
+    return (11, k)
+
+
+def tree_count(mark):
+    return (12, mark)
+
+
+def check_chains(chains):
+    return (13, len(chains), *chains)
+
+
+def chains_from(mark):
+    return (14, mark)
+
+
+def evaluate_with_piece(left, right):
+    return (15, left, right)
 
 
 def start(*pieces):
@@ -56,15 +83,19 @@ def ask_last(calls):
     return ask(calls)[-1]
 
 
-def pieces_after(calls):
-    """The pieces that the instance holds after these calls.
+def ask_about(pieces, queries):
+    """The answers to the queries on an instance of these pieces, in as many requests as needed."""
+    calls = start(*pieces)
+    room = 60 - len(calls)
+    found = []
+    for position in range(0, len(queries), room):
+        found += ask(calls + list(queries[position:position + room]))[len(calls):]
+    return found
 
-    set_piece answers the old marks; it's refused for the first index that isn't there.
-    """
-    probes = [set_piece(i, 0, 0) for i in range(8)]
-    pieces = []
-    for answer in ask(list(calls) + probes)[len(calls):]:
-        if answer == [-2]:
-            break
-        pieces.append((answer[1], answer[2]))
-    return pieces
+
+def pieces_after(calls):
+    """The pieces that the instance holds after these calls."""
+    told = ask_last(list(calls) + [DESCRIBE])
+    if len(told) != 1 + 2 * told[0]:
+        raise AssertionError("not left and right of each piece: %r" % (told,))
+    return list(zip(told[1::2], told[2::2]))

@@ -3,11 +3,12 @@
 import unittest
 
 from asking import (
-    CHAIN_COUNT, CREATE, EXCESSES, LEAST, MIN_CHAINS, MOST, SINGLE_CHAIN_POSSIBLE,
-    add_piece, ask, ask_last, chain, pieces_after, remove_piece, set_piece, start,
+    CHAIN_COUNT, CIRCUIT_COUNT, COMPONENTS, CREATE, DESCRIBE, EXCESSES, LEAST, MIN_CHAINS, MOST,
+    NO_INDICES, NO_MARKS, SINGLE_CHAIN_POSSIBLE, add_piece, ask, ask_last, chain, chains_from,
+    check_chains, circuit, evaluate_with_piece, pieces_after, remove_piece, set_piece, start,
+    tree_count,
 )
 
-NO_MARKS = (-1, 6, LEAST, MOST)
 SEVEN = [(0, 1), (1, 2), (2, 3), (3, 4), (4, 5), (5, 0), (3, 3)]
 
 
@@ -15,19 +16,29 @@ class AheadOfCreate(unittest.TestCase):
     def test_every_other_call_is_refused(self):
         calls = [
             add_piece(0, 1), remove_piece(0), set_piece(0, 0, 1), CHAIN_COUNT, chain(0),
-            SINGLE_CHAIN_POSSIBLE, MIN_CHAINS, EXCESSES,
+            SINGLE_CHAIN_POSSIBLE, MIN_CHAINS, EXCESSES, COMPONENTS, CIRCUIT_COUNT, circuit(0),
+            tree_count(0), check_chains([-1]), check_chains([0]), chains_from(0),
+            evaluate_with_piece(0, 1), DESCRIBE,
         ]
         for call in calls:
             self.assertEqual(ask([call]), [[-11]])
+            self.assertEqual(ask([call, CREATE, DESCRIBE]), [[-11], [0], [0]])
         self.assertEqual(ask(calls), [[-11]] * len(calls))
 
     def test_checked_ahead_of_the_ranges(self):
-        for wrong in NO_MARKS:
+        for wrong in NO_MARKS + NO_INDICES:
             calls = [
                 add_piece(wrong, 0), add_piece(0, wrong), remove_piece(wrong), chain(wrong),
                 set_piece(wrong, 0, 0), set_piece(0, wrong, 0), set_piece(0, 0, wrong),
+                circuit(wrong), tree_count(wrong), chains_from(wrong), check_chains([wrong]),
+                check_chains([0, -1, wrong]), check_chains([wrong] * 70),
+                evaluate_with_piece(wrong, 0), evaluate_with_piece(0, wrong),
             ]
             self.assertEqual(ask(calls), [[-11]] * len(calls))
+
+    def test_checked_ahead_of_the_empty_list(self):
+        calls = [check_chains([]), CREATE, check_chains([]), DESCRIBE]
+        self.assertEqual(ask(calls), [[-11], [0], [-22], [0]])
 
     def test_a_refused_call_leaves_nothing_behind(self):
         self.assertEqual(pieces_after([add_piece(0, 1), CREATE]), [])

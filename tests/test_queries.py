@@ -1,73 +1,13 @@
 """chain_count, chain, single_chain_possible, min_chains, excesses."""
 
-import random
 import unittest
-from itertools import permutations, product
 
 from asking import (
     CHAIN_COUNT, CREATE, EXCESSES, LEAST, MIN_CHAINS, MOST, SINGLE_CHAIN_POSSIBLE,
-    add_piece, ask, ask_last, chain, pieces_after, remove_piece, set_piece, start,
+    add_piece, ask, ask_last, chain, remove_piece, set_piece, start,
 )
 
 RING = [(0, 1), (1, 2), (2, 3), (3, 4), (4, 5), (5, 0)]
-
-
-def gaps(pieces, order):
-    """How many neighbours don't fit if the pieces are laid in this order."""
-    return len([i for i, j in zip(order, order[1:]) if pieces[i][1] != pieces[j][0]])
-
-
-def orders_by_trying(pieces):
-    """The complete chains, found by trying every order."""
-    return [list(order) for order in permutations(range(len(pieces))) if gaps(pieces, order) == 0]
-
-
-def min_chains_by_trying(pieces):
-    """The fewest chains that hold all pieces: an order is cut at its gaps alone."""
-    if not pieces:
-        return 0
-    return 1 + min(gaps(pieces, order) for order in permutations(range(len(pieces))))
-
-
-def excesses_by_counting(pieces):
-    lefts = [left for left, right in pieces]
-    rights = [right for left, right in pieces]
-    return [lefts.count(mark) - rights.count(mark) for mark in range(6)]
-
-
-def many_lists_of_pieces():
-    """All lists of at most 2 pieces with four marks, and some of each larger size."""
-    kinds = list(product(range(4), repeat=2))
-    lists = [list(pieces) for size in range(3) for pieces in product(kinds, repeat=size)]
-    draw = random.Random(20)
-    for size, how_many in ((3, 120), (4, 120), (5, 80), (6, 30), (7, 12)):
-        for turn in range(how_many):
-            marks = 1 + turn % 6
-            pieces = [(draw.randrange(marks), draw.randrange(marks)) for piece in range(size)]
-            lists.append(pieces)
-    return lists
-
-
-class AgainstTrying(unittest.TestCase):
-    def test_many_lists_of_pieces(self):
-        for pieces in many_lists_of_pieces():
-            with self.subTest(pieces=pieces):
-                self.compare(pieces)
-
-    def compare(self, pieces):
-        orders = orders_by_trying(pieces)
-        fewest = min_chains_by_trying(pieces)
-        numbers = sorted(set(list(range(min(len(orders), 20))) + [len(orders) // 2, len(orders) - 1]))
-        queries = [CHAIN_COUNT, SINGLE_CHAIN_POSSIBLE, MIN_CHAINS, EXCESSES, chain(len(orders)), chain(-1)]
-        found = ask(start(*pieces) + queries + [chain(k) for k in numbers])[1 + len(pieces):]
-        self.assertEqual(found[0], [len(orders)])
-        self.assertEqual(found[1], [1 if fewest <= 1 else 0])
-        self.assertEqual(found[2], [fewest])
-        self.assertEqual(found[3], [6] + excesses_by_counting(pieces))
-        self.assertEqual(found[4:6], [[-2], [-2]])
-        for k, answer in zip(numbers, found[6:]):
-            expected = [-2] if not 0 <= k < len(orders) else [len(pieces)] + orders[k]
-            self.assertEqual(answer, expected)
 
 
 class NoPieces(unittest.TestCase):
@@ -194,35 +134,6 @@ class Excesses(unittest.TestCase):
     def test_follows_the_changes(self):
         calls = start((0, 1)) + [set_piece(0, 4, 3), EXCESSES, remove_piece(0), EXCESSES]
         self.assertEqual(ask(calls)[3:], [[6, 0, 0, 0, -1, 1, 0], [0], [6, 0, 0, 0, 0, 0, 0]])
-
-
-class Unchanged(unittest.TestCase):
-    """Point 6: no refused call and no call from number 4 on changes the instance."""
-
-    LISTS = (
-        [], [(0, 1)], [(0, 1), (1, 0), (0, 0)], [(0, 1), (2, 3)], RING + [(0, 0)], [(5, 5)] * 7,
-    )
-
-    def test_queries(self):
-        queries = [CHAIN_COUNT, chain(0), SINGLE_CHAIN_POSSIBLE, MIN_CHAINS, EXCESSES]
-        for pieces in self.LISTS:
-            for query in queries:
-                self.assertEqual(pieces_after(start(*pieces) + [query]), pieces)
-            twice = ask(start(*pieces) + queries + queries)[1 + len(pieces):]
-            self.assertEqual(twice[:5], twice[5:])
-
-    def test_refused_calls(self):
-        for pieces in self.LISTS:
-            calls = [set_piece(i, 0, 6) for i in range(len(pieces))]
-            for wrong in (-1, LEAST, MOST):
-                calls += [remove_piece(wrong), set_piece(wrong, 0, 0), set_piece(0, wrong, 0)]
-                calls += [add_piece(wrong, 0), add_piece(0, wrong), chain(wrong)]
-            if len(pieces) == 7:
-                calls.append(add_piece(0, 0))
-            found = ask(start(*pieces) + calls)[1 + len(pieces):]
-            for answer in found:
-                self.assertIn(answer, ([-2], [-22], [-28]))
-            self.assertEqual(pieces_after(start(*pieces) + calls), pieces)
 
 
 if __name__ == "__main__":
